@@ -384,26 +384,33 @@ func (c *lineCursor) failForm() int64 {
 }
 
 func (c *lineCursor) number() int64 {
-	field := c.field()
-	if string(field) == "0" {
-		return 0
-	}
-	digits, negative := bytes.CutPrefix(field, []byte{'-'})
-	if len(digits) == 0 || len(digits) > digitsMax || digits[0] == '0' {
+	digits, negative := bytes.CutPrefix(c.field(), []byte{'-'})
+	n, ok := plainNumber(digits)
+	if !ok || negative && n == 0 {
 		return c.failForm()
-	}
-	n := int64(0)
-	for _, d := range digits {
-		if d < '0' || d > '9' {
-			return c.failForm()
-		}
-		n = 10*n + int64(d-'0')
 	}
 	if negative {
 		return -n
 	}
 	return n
 }
+
+// plainNumber reads a number without a sign; it fails for more than digitsMax digits and for a '0' in front of another.
+func plainNumber(digits []byte) (int64, bool) {
+	if len(digits) == 0 || len(digits) > digitsMax || len(digits) > 1 && digits[0] == '0' {
+		return 0, false
+	}
+	n := int64(0)
+	for _, d := range digits {
+		if !isDigit(d) {
+			return 0, false
+		}
+		n = 10*n + int64(d-'0')
+	}
+	return n, true
+}
+
+func isDigit(c byte) bool { return '0' <= c && c <= '9' }
 
 func (c *lineCursor) tags() int64 {
 	field := c.field()
